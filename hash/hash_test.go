@@ -145,7 +145,9 @@ func checkSip(t *testing.T, k0, k1 uint64, s string) {
 	}
 }
 
-// published are SipHash-2-4's own answers, of 0, 1, 2 .. 63 bytes.
+// published are SipHash-2-4's answers of 0, 1, 2 .. 63 bytes, for which it
+// publishes a list. They are written down from the openssl command, not from
+// that list; the one of 15 bytes is DOC.md's, too.
 func published() []uint64 {
 	return []uint64{
 		0x726fdb47dd0e0e31, 0x74f839c593dc67fd, 0x0d6c8009d9a94f5a, 0x85676696d7fb7e2d,
